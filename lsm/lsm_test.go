@@ -471,3 +471,69 @@ func TestManyItems(t *testing.T) {
 		t.Error("opened anew")
 	}
 }
+
+// Whatever is flushed, merged and held, each moment shows what it showed.
+func TestP12_3And4AgainstAModel(t *testing.T) {
+	x := rand.New(rand.NewSource(21))
+	for round := range 60 {
+		d := disk(t, 1<<24)
+		db := open(t, d, Options{64 + x.Intn(2000), 1 + x.Intn(5), 2 + x.Intn(3)})
+		now := map[string]string{}
+		held := map[uint64]map[string]string{}
+		for range 150 {
+			key := fmt.Sprintf("k%02d", x.Intn(30))
+			switch x.Intn(9) {
+			case 0:
+				held[db.Snap()] = maps.Clone(now)
+			case 1:
+				for snap := range held {
+					if x.Intn(2) == 0 {
+						for db.Release(snap) == api.OK {
+						}
+						delete(held, snap)
+					}
+				}
+			case 2:
+				db.Flush()
+			case 3:
+				if x.Intn(3) == 0 {
+					db.Compact()
+				}
+			case 4:
+				write(t, db, false, gone(key))
+				delete(now, key)
+			default:
+				for range 1 + x.Intn(60) {
+					now[key] = fmt.Sprint(x.Intn(1000))
+					write(t, db, false, set(key, now[key]))
+				}
+			}
+			check := func(m map[string]string, at uint64) {
+				from, to, most := fmt.Sprintf("k%02d", x.Intn(30)), fmt.Sprintf("k%02d", x.Intn(35)), x.Intn(12)-1
+				if x.Intn(3) == 0 {
+					to = ""
+				}
+				var want []Op
+				for _, k := range slices.Sorted(maps.Keys(m)) {
+					if k >= from && (to == "" || k < to) && (most < 0 || len(want) < most) {
+						want = append(want, set(k, m[k]))
+					}
+				}
+				got := db.Scan(from, to, most)
+				if at != math.MaxUint64 {
+					got, _ = db.ScanAt(from, to, most, at)
+				}
+				if told(got) != told(want) {
+					t.Fatalf("round %d: Scan(%q, %q, %d) at %d: %s, want %s", round, from, to, most, at, told(got), told(want))
+				}
+			}
+			check(now, math.MaxUint64)
+			for snap, m := range held {
+				check(m, snap)
+				if v, ok, e := db.GetAt(key, snap); v != m[key] || ok != (m[key] != "") || e != api.OK {
+					t.Fatalf("round %d: GetAt", round)
+				}
+			}
+		}
+	}
+}
