@@ -80,6 +80,9 @@ func TestP3_2Limits(t *testing.T) {
 	if r := Read([]byte{5}); r.Int(5) != 5 || r.Err() != api.OK {
 		t.Error("Int at its limit")
 	}
+	if r := Read([]byte{0, 0}); r.Int(0) != 0 || r.Text(0) != "" || r.End() != api.OK {
+		t.Error("0 is at most 0")
+	}
 	for _, most := range []int{4, 0, -1, math.MinInt} {
 		if r := Read([]byte{5}); r.Int(most) != 0 || r.Err() != api.EFORM {
 			t.Errorf("Int(%d)", most)

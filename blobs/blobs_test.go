@@ -181,7 +181,7 @@ func TestP16_3Keep(t *testing.T) {
 	if len(s.Names()) != 5+3+2+1 {
 		t.Fatalf("%d blobs", len(s.Names()))
 	}
-	if n := s.Keep([]string{b, name, loose, "x", b}); n != 1+3+1+1-1 {
+	if n := s.Keep([]string{"x", loose, b, name, b}); n != 1+3+1+1-1 {
 		t.Errorf("%d taken", n)
 	}
 	if p, e := s.Photo(b); e != api.OK || !bytes.Equal(p, photo(70)) {

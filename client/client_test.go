@@ -799,3 +799,24 @@ func TestTheLogIsCut(t *testing.T) {
 		t.Error("a snapshot that was changed")
 	}
 }
+
+func TestP22_6Looking(t *testing.T) {
+	c, _ := ready(t)
+	set(t, c, "c", "f", "v")
+	set(t, c, "c", "f", "w")
+	c.SetPhoto("c", []byte("photo"))
+	before := kept(c)
+	c.State().Apply(event(5, 1, "d", "f", "v"))
+	c.Outbox()[1].Kills[0].N = 77
+	c.Outbox()[0].Contact = "x"
+	c.Uploads()[0] = "x"
+	c.Blobs()[0] = "x"
+	if p, _ := c.Photo("c"); string(p) != "photo" {
+		t.Error("the photo")
+	} else {
+		p[0] = 'x'
+	}
+	if p, _ := c.Photo("c"); string(p) != "photo" || kept(c) != before || c.Idle() || c.Out() {
+		t.Error("what is told is no copy")
+	}
+}

@@ -29,7 +29,7 @@ func TestExamples(t *testing.T) {
 func TestP17_1FirstLines(t *testing.T) {
 	long := strings.Repeat("x", 200)
 	for s, want := range map[string]api.Errno{
-		"GET / HTTP/1.1||": api.OK, "ABCDEFGH /!~ HTTP/1.1||": api.OK, "G /" + long + " HTTP/1.1||": api.OK,
+		"GET / HTTP/1.1||": api.OK, "ABCDEFGH /!~ HTTP/1.1||": api.OK, "XYZ / HTTP/1.1||": api.OK, "A[ / HTTP/1.1||": api.EFORM, "A@ / HTTP/1.1||": api.EFORM, "G /" + long + " HTTP/1.1||": api.OK,
 		"G /" + long + "x HTTP/1.1||": api.EFORM, "ABCDEFGHI / HTTP/1.1||": api.EFORM, " / HTTP/1.1||": api.EFORM, "G  / HTTP/1.1||": api.EFORM,
 		"G / HTTP/1.0||": api.EFORM, "G / HTTP/1.1 ||": api.EFORM, "G a HTTP/1.1||": api.EFORM, "G1 / HTTP/1.1||": api.EFORM, "G /\x7f HTTP/1.1||": api.EFORM,
 		"G /\xc3\xa4 HTTP/1.1||": api.EFORM, "||": api.EFORM, "|": api.EFORM, "G / HTTP/1.1\n|": api.EFORM, "G / HTTP/1.1": api.EORDER, "": api.EORDER, "nonsense": api.EORDER,

@@ -537,3 +537,85 @@ func TestP12_3And4AgainstAModel(t *testing.T) {
 		}
 	}
 }
+
+// copied is a disk with the same files, all of them safe.
+func copied(t *testing.T, d *simdisk.Disk) *simdisk.Disk {
+	t.Helper()
+	c := disk(t, 1<<20)
+	for _, name := range d.List() {
+		b, _ := d.Read(name)
+		put(c, name, b)
+	}
+	return c
+}
+
+func put(d *simdisk.Disk, name string, b []byte) {
+	d.Create(name)
+	d.Append(name, b)
+	d.Sync(name)
+	d.SyncDir()
+}
+
+// A crash within a flush, behind the switch of the manifest: the segments that the new version does not need are there still.
+func TestP12_6CrashWithinAFlush(t *testing.T) {
+	for n := 1; n < 5; n++ {
+		d := disk(t, 1<<20)
+		db := open(t, d, Options{65536, 4, 2})
+		for i := range n {
+			write(t, db, true, set(fmt.Sprint("k", i), "v"), gone("x"))
+		}
+		write(t, db, true, set("one", "1"))
+		before := copied(t, d)
+		want, seq := told(db.Scan("", "", -1)), db.Seq()
+		if db.Flush() != api.OK {
+			t.Fatal("Flush")
+		}
+		for _, alsoNew := range []bool{false, true} {
+			if alsoNew {
+				write(t, db, true, set("new", "1"))
+				want, seq = told(db.Scan("", "", -1)), db.Seq()
+			}
+			c := copied(t, d)
+			old, _ := before.Read("w-000001")
+			put(c, "w-000001", old)
+			for range 2 {
+				again := open(t, c, small)
+				if told(again.Scan("", "", -1)) != want || again.Seq() != seq {
+					t.Errorf("%s, want %s", told(again.Scan("", "", -1)), want)
+				}
+				if slices.Contains(c.List(), "w-000001") {
+					t.Error("the old segment is left")
+				}
+			}
+		}
+		// Ahead of the switch: the new table and segment are there, and make no difference.
+		table, _ := d.Read("t-000001")
+		put(before, "t-000001", table)
+		put(before, "w-000002", nil)
+		if again := open(t, before, small); again.Seq() != uint64(2*n+1) || slices.Contains(before.List(), "t-000001") {
+			t.Error("a table that no manifest tells of")
+		}
+	}
+}
+
+func TestP12_1OtherFiles(t *testing.T) {
+	d := disk(t, 1<<20)
+	names := []string{"a", "manifesto", "table", "t", "w", "x-000001", "xx000001"}
+	for _, name := range append(names, "w-", "w-1", "w-00000a", "w-0000001", "t-", "t-1", "t-00000a") {
+		put(d, name, []byte("left alone"))
+	}
+	db := open(t, d, small)
+	value := strings.Repeat("v", api.MaxValue)
+	for i := range 30 {
+		write(t, db, true, set(fmt.Sprint("k", i), value))
+	}
+	db = open(t, d, small)
+	if db.Compact() != api.OK || len(db.Scan("", "", -1)) != 30 {
+		t.Error("the store")
+	}
+	for _, name := range names {
+		if b, e := d.Read(name); e != api.OK || string(b) != "left alone" {
+			t.Errorf("%s was touched", name)
+		}
+	}
+}

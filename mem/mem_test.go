@@ -93,6 +93,10 @@ func TestP9_1From(t *testing.T) {
 		put(t, m, api.Item{Key: "ac"})
 		break
 	}
+	put(t, m, api.Item{Key: "zz", Seq: math.MaxUint64})
+	if got := slices.Collect(m.From("zz")); len(got) != 1 {
+		t.Error("the greatest number")
+	}
 	if got := slices.Collect(New().From("")); len(got) != 0 {
 		t.Error("nothing")
 	}

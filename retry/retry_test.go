@@ -22,6 +22,11 @@ func TestExample(t *testing.T) {
 	if x.Fails() != 0 || !x.Ready(18) || x.Ready(17) {
 		t.Error("well")
 	}
+	x.Fail(100, 0)
+	x.Well(90)
+	if !x.Ready(90) || x.Ready(89) {
+		t.Error("well ahead of its time")
+	}
 	if x.Fail(20, 0) != 22 {
 		t.Error("it begins anew")
 	}

@@ -642,3 +642,21 @@ func TestP21_5Crashes(t *testing.T) {
 		}
 	}
 }
+
+func TestP21_4Looking(t *testing.T) {
+	s := open(t, disk(t, 100000), plain)
+	c := &caller{t, s, register(t, s, 2, 0), 0}
+	register(t, s, 1, 0)
+	c.push(0, set(at(2, 1), "c", "f", "v"))
+	c.ask("PUT", "/blob", []byte("x"))
+	before := told(s)
+	s.State().Apply(set(at(3, 1), "d", "f", "v"))
+	s.Devices()[0].Epoch = 9
+	s.Blobs()[0] = "x"
+	if told(s) != before {
+		t.Error("what is told is no copy")
+	}
+	if l := s.Devices(); len(l) != 2 || l[0].Dev != 1 || l[1].Dev != 2 || s.Tokens() != 2 || len(s.Blobs()) != 1 {
+		t.Error("what it tells")
+	}
+}

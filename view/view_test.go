@@ -69,9 +69,9 @@ func TestP15_1List(t *testing.T) {
 }
 
 func TestP15_1Find(t *testing.T) {
-	s := state(t, entry("Ann", "tel", "5x", 0, 1), entry("bob", "fn", "ÄX", 0, 2), entry("bob", "nick", "JoAN", 0, 3), entry("c", "an", "1", 0, 4), entry("d", "f", "[", 0, 5))
+	s := state(t, entry("Ann", "tel", "5x", 0, 1), entry("bob", "fn", "ÄX", 0, 2), entry("bob", "nick", "JoAN", 0, 3), entry("c", "an", "1", 0, 4), entry("d", "f", "[", 0, 5), entry("e", "f", "aZq", 0, 6))
 	for text, want := range map[string][]string{
-		"": {"Ann", "bob", "c", "d"}, "AN": {"Ann", "bob"}, "aN": {"Ann", "bob"}, "x": {"Ann", "bob"}, "Ä": {"bob"}, "ä": nil, "an5": nil, "{": nil, "[": {"d"}, "C": {"c"},
+		"": {"Ann", "bob", "c", "d", "e"}, "Zq": {"e"}, "zQ": {"e"}, "AN": {"Ann", "bob"}, "aN": {"Ann", "bob"}, "x": {"Ann", "bob"}, "Ä": {"bob"}, "ä": nil, "an5": nil, "{": nil, "[": {"d"}, "C": {"c"},
 	} {
 		if got := Find(s, text); !slices.Equal(got, want) {
 			t.Errorf("Find(%q): %q", text, got)

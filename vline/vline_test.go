@@ -52,7 +52,7 @@ func TestP23_1Read(t *testing.T) {
 		"": nil, "||\r|": nil, "A:": {{Name: "a", At: 1}}, "|Ab-1:x:y;z,\"\t|": {{Name: "ab-1", Value: "x:y;z,\"\t", At: 2}},
 		"G1.N;P=a,,b;Q=\"x,y;z:\",\"\":v": {{"g1", "n", []Param{{"p", []string{"a", "", "b"}}, {"q", []string{"x,y;z:", ""}}}, "v", 1}},
 		"N;P=:v":                          {{"", "n", []Param{{"p", []string{""}}}, "v", 1}}, "N;P=a=b\t :v": {{"", "n", []Param{{"p", []string{"a=b\t "}}}, "v", 1}}, long + "." + long + ";" + long + "=ä:ö": {{long, long, []Param{{long, []string{"ä"}}}, "ö", 1}},
-		"A:b| c|D:\xc3| \xa4": {{Name: "a", Value: "bc", At: 1}, {Name: "d", Value: "ä", At: 3}}, "-:x": {{Name: "-", Value: "x", At: 1}},
+		"A:b| c|D:\xc3| \xa4": {{Name: "a", Value: "bc", At: 1}, {Name: "d", Value: "ä", At: 3}}, "-:x": {{Name: "-", Value: "x", At: 1}}, "aZz-09.AZz-09:x": {{Group: "azz-09", Name: "azz-09", Value: "x", At: 1}},
 		"N;P=\"a\";P=b:v": {{"", "n", []Param{{"p", []string{"a"}}, {"p", []string{"b"}}}, "v", 1}},
 	} {
 		l, n, e := Read(wire(s))
@@ -99,7 +99,7 @@ func TestP23_2Print(t *testing.T) {
 		want string
 	}{
 		{Line{Name: "fn", Value: "x", At: 9}, "FN:x"}, {Line{"g-1", "tel", []Param{{"type", []string{"a", "", "b;c", "d:", "e,"}}, {"x", []string{"ä b"}}}, ":;,\"", 0}, "g-1.TEL;TYPE=a,,\"b;c\",\"d:\",\"e,\";X=ä b::;,\""},
-		{Line{Name: "a"}, "A:"}, {Line{Name: "a", Value: strings.Repeat("v", 100)}, "A:" + strings.Repeat("v", 73) + "\r\n " + strings.Repeat("v", 27)},
+		{Line{Name: "az-09"}, "AZ-09:"}, {Line{Name: "a", Value: strings.Repeat("v", 100)}, "A:" + strings.Repeat("v", 73) + "\r\n " + strings.Repeat("v", 27)},
 	} {
 		if s, e := Print(c.l); e != api.OK || s != c.want+"\r\n" {
 			t.Errorf("%v: %q %v", c.l, s, e)

@@ -87,7 +87,7 @@ func TestP7_1Arguments(t *testing.T) {
 	if len(d.List()) != 0 {
 		t.Error("a refused Open makes files")
 	}
-	for _, p := range []string{"", strings.Repeat("a", 58), "..", "1"} {
+	for _, p := range []string{"", strings.Repeat("a", 58), "..", "1", "z90-_."} {
 		if l, _, e := Open(d, p, 1<<20); e != api.OK || l.First() != 1 || l.Last() != 1 {
 			t.Errorf("Open(%q): %v", p, e)
 		}
@@ -163,6 +163,15 @@ func TestP7_2AppendRotateCut(t *testing.T) {
 	clear(rec)
 	if l.First() != 1 || l.Last() != 2 || l.Records() != 8 {
 		t.Errorf("%d %d %d", l.First(), l.Last(), l.Records())
+	}
+	full, _, _ := Open(disk(t, 1000), "w-", 64)
+	ok(t, full.Append(make([]byte, 56)))
+	if full.Last() != 1 {
+		t.Error("an empty segment is not left")
+	}
+	ok(t, full.Append(nil))
+	if full.Last() != 2 {
+		t.Error("a segment of just most bytes is left")
 	}
 	ok(t, l.Rotate(), l.Append([]byte("x")), l.Rotate())
 	if l.Cut(5) != api.EARG || l.Cut(math.MaxInt) != api.EARG {
