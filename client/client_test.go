@@ -14,6 +14,7 @@ import (
 	"rolodex/api"
 	"rolodex/blobs"
 	"rolodex/crdt"
+	"rolodex/frame"
 	"rolodex/httpwire"
 	"rolodex/proto"
 	"rolodex/server"
@@ -143,6 +144,11 @@ func TestP22_1Open(t *testing.T) {
 	}
 	if c, e := Open(disk(t, 0), plain); c != nil || e != api.EFULL {
 		t.Error("how often it was opened can't be kept")
+	}
+	for _, timeout := range []int64{1, 1 << 40} {
+		if _, e := Open(disk(t, 1000), Options{15, timeout, 1 << 40, 1 << 40}); e != api.OK {
+			t.Errorf("timeout %d: %v", timeout, e)
+		}
 	}
 	c := open(t, d)
 	if c.Idle() || c.Out() || c.Counter() != 0 || c.Cursor() != 0 || c.Epoch() != 0 || len(c.Outbox()) != 0 || len(c.Uploads()) != 0 || len(c.Blobs()) != 0 || !c.State().Same(crdt.New()) {
@@ -275,6 +281,9 @@ func TestP22_2SetOfAPhotosName(t *testing.T) {
 		t.Error("the server has them")
 	}
 	set(t, c, "d", "Photo", e.Value)
+	if len(c.Uploads()) != 0 {
+		t.Error("another field")
+	}
 	set(t, c, "d", "photo", c.Blobs()[0])
 	set(t, c, "d", "photo", c.Blobs()[1])
 	if len(c.Uploads()) != 2 {
@@ -818,5 +827,91 @@ func TestP22_6Looking(t *testing.T) {
 	}
 	if p, _ := c.Photo("c"); string(p) != "photo" || kept(c) != before || c.Idle() || c.Out() {
 		t.Error("what is told is no copy")
+	}
+}
+
+func TestP22_6Idle(t *testing.T) {
+	c, _ := ready(t)
+	r := next(t, c, 0)
+	c.mustPull = false
+	if c.Idle() {
+		t.Error("a request is out")
+	}
+	handle(t, c, r, 200, laid(proto.EncodePullAck, proto.PullAck{Next: 1}))
+	if !c.Idle() {
+		t.Error("there is nothing to do")
+	}
+	c.Poll()
+	name := strings.Repeat("1", 64)
+	handle(t, c, next(t, c, 0), 200, laid(proto.EncodePullAck, proto.PullAck{Next: 2, Events: []api.Event{event(2, 1, "a", "photo", name)}}))
+	if c.Idle() {
+		t.Error("a blob is to be fetched")
+	}
+	handle(t, c, next(t, c, 0), 404, nil)
+	e, _ := c.SetPhoto("c", []byte("photo"))
+	if c.Idle() {
+		t.Error("an outbox")
+	}
+	handle(t, c, next(t, c, 0), 200, []byte{1})
+	if c.Idle() || len(c.Outbox()) != 0 {
+		t.Error("uploads")
+	}
+	handle(t, c, next(t, c, 0), 200, laid(proto.EncodeHaveAck, proto.HaveAck{}))
+	if !c.Idle() {
+		t.Error("there is nothing to do any more")
+	}
+	set(t, c, "c", "f", e.Value)
+	if c.Idle() || len(c.Uploads()) != 0 {
+		t.Error("an outbox alone")
+	}
+}
+
+// A crash when a snapshot is safe, but the log is not cut yet: what the log has of it already is passed over.
+func TestP22_7CrashWithinASnapshot(t *testing.T) {
+	c, d := ready(t)
+	old := map[string][]byte{}
+	for i := 0; !slices.Contains(d.List(), "device"); i++ {
+		for _, name := range d.List() {
+			old[name], _ = d.Read(name)
+		}
+		set(t, c, fmt.Sprint("c", i%3), "f", fmt.Sprint(i, strings.Repeat("v", 300)))
+	}
+	set(t, c, "z", "f", "behind it")
+	again := disk(t, 1<<20)
+	for name, b := range old {
+		again.Create(name)
+		again.Append(name, b)
+	}
+	for _, name := range d.List() {
+		b, _ := d.Read(name)
+		again.Create(name)
+		again.Append(name, b)
+	}
+	again.Create("device.tmp")
+	again.Append("device.tmp", []byte("torn"))
+	o := open(t, again)
+	if kept(o) != kept(c) {
+		t.Error("unlike")
+	}
+	for i := range 100 {
+		set(t, o, "c", "f", fmt.Sprint(i, strings.Repeat("v", 500)))
+	}
+	if before := kept(o); kept(open(t, again)) != before {
+		t.Error("opened anew")
+	}
+}
+
+func TestOnlyRecordsAreReplayed(t *testing.T) {
+	c, d := ready(t)
+	set(t, c, "c", "f", "v")
+	good, _ := d.Read("log-000001")
+	for i, record := range [][]byte{{}, {3}, {3, 99}, {4, 0}, {3, 1, 0}, {3, 0, 7}, {3, 2}, {3, 3}, {3, 4, 0, 0, 0}, {3, 4, 0}, {3, 5, 1}} {
+		x := disk(t, 1000)
+		b, _ := frame.Append(good, record)
+		x.Create("log-000001")
+		x.Append("log-000001", b)
+		if o, e := Open(x, plain); o != nil || e != api.ECORRUPT {
+			t.Errorf("%d is replayed: %v", i, e)
+		}
 	}
 }

@@ -1,10 +1,13 @@
 package client
 
 import (
+	"slices"
+
 	"rolodex/api"
 	"rolodex/bin"
 	"rolodex/blobs"
 	"rolodex/crdt"
+	"rolodex/dot"
 	"rolodex/proto"
 )
 
@@ -134,14 +137,19 @@ func (d *device) acknowledge(b []byte) bool {
 	return true
 }
 
-// canTake asks whether the state's Apply takes events, one behind the other: whether their dots can be seen (all else of them was asked when they were read).
+// fewDots is so few beside what a set of dots takes (4096 of a device) that no page of events passes that with them.
+const fewDots = 2048
+
+// canTake asks whether the state's Apply takes events, one behind the other. It is tried on a copy only where it could fail at all: on a state that has seen many dots that stand alone.
 func (d *device) canTake(l []api.Event) bool {
-	seen := d.state.Seen()
-	for _, e := range l {
-		for _, x := range append([]api.Dot{e.Dot}, e.Kills...) {
-			if seen.Add(x) != api.OK {
-				return false
-			}
+	many := func(p dot.Part) bool { return len(p.More) > fewDots }
+	if !slices.ContainsFunc(d.state.Seen().Parts(), many) {
+		return true
+	}
+	state := d.state.Copy()
+	for _, x := range l {
+		if _, e := state.Apply(x); e != api.OK {
+			return false
 		}
 	}
 	return true

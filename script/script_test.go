@@ -137,6 +137,9 @@ func TestP26_2Play(t *testing.T) {
 		"register 0\nsend 0\ndouble 1\ndouble 9\nlose 2\nlose 2\ndeliver 1\ndeliver 1\ndeliver 3 5\nround 0\nround 7":                           "ok; ok 1; ok 2; error 4; ok; error 4; ok; error 4; ok; ok 1; error 1",
 		"tick 5\ntick -1\nfeed 1\nfeed -1\npoll 0\npoll 5\ncollect\ncrash -1\ncrash 0 1 2\ncrash 5\nroom -1 5\nroom 0 0\nset 0 c f v\nroom 5 5": "ok; error 1; ok; error 1; ok; error 1; ok 0 0; ok; ok; error 1; ok; ok; error 5; error 1",
 		"register 0\nset 0 c f v\nround 0\ntick 5000\ncollect":                                                                                  "ok; ok 0.1; ok 2; ok; ok 1 1",
+		"set 0 c f v\nset 0 c g w\ndrop 0 c f\nget 0 c":                                                                                         "ok 0.1; ok 0.2; ok 0.3; ok g=w",
+		"register 0\nset 0 c f v\nsend 0\ndeliver 1 90\ndeliver 2\nsend 0\npoll 0\nround 0":                                                     "ok; ok 0.1; ok 1; ok; ok; ok 0; ok; ok 2",
+		"register 0\nset 0 c f v\nsend 0\ndeliver 1 -7\ndeliver 2 -1\nsend 0":                                                                   "ok; ok 0.1; ok 1; ok; ok; ok 3",
 		"drop 0 c \\e\nset 0 c f v\nset 0 c g w\ndrop 0 c \\e":                                                                                  "error 4; ok 0.1; ok 0.2; ok 0.3",
 	} {
 		if got := play(t, world(t), text); got != want {

@@ -6,6 +6,7 @@ import (
 
 	"rolodex/api"
 	"rolodex/crdt"
+	"rolodex/dot"
 	"rolodex/httpwire"
 	"rolodex/lsm"
 	"rolodex/proto"
@@ -134,14 +135,19 @@ func (s *Server) push(device Info, body []byte) (int, []byte) {
 	return good, answer
 }
 
-// canTake asks whether the state's Apply takes events, one behind the other: whether their dots can be seen (all else of them was asked when they were read).
+// fewDots is so few beside what a set of dots takes (4096 of a device) that no push passes that with them.
+const fewDots = 2048
+
+// canTake asks whether the state's Apply takes events, one behind the other. It is tried on a copy only where it could fail at all: on a state that has seen many dots that stand alone.
 func (s *Server) canTake(l []api.Event) bool {
-	seen := s.state.Seen()
+	many := func(p dot.Part) bool { return len(p.More) > fewDots }
+	if !slices.ContainsFunc(s.state.Seen().Parts(), many) {
+		return true
+	}
+	state := s.state.Copy()
 	for _, x := range l {
-		for _, d := range append([]api.Dot{x.Dot}, x.Kills...) {
-			if seen.Add(d) != api.OK {
-				return false
-			}
+		if _, e := state.Apply(x); e != api.OK {
+			return false
 		}
 	}
 	return true

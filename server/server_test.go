@@ -660,3 +660,56 @@ func TestP21_4Looking(t *testing.T) {
 		t.Error("what it tells")
 	}
 }
+
+// What was dropped is gone from the store, too; what is used is kept, behind any crash.
+func TestP21_3WhatIsLeftOfACollect(t *testing.T) {
+	d := disk(t, 1<<22)
+	s := open(t, d, plain)
+	c := &caller{t, s, register(t, s, 0, 0), 0}
+	var names []string
+	for i := range 5 {
+		_, name := c.ask("PUT", "/blob", []byte{byte(i)})
+		names = append(names, string(name))
+	}
+	for n := range uint64(30) {
+		c.push(0, set(at(0, n+1), fmt.Sprint("c", n), "photo", strings.Repeat("v", 500)), set(at(0, n+2), "c", "photo", strings.Repeat("0", 64)))
+		c.push(0, set(at(0, n+1), fmt.Sprint("c", n), "f", "v"))
+	}
+	c.now = 50
+	c.have(names[0], names[0])
+	c.ask("PUT", "/blob", []byte{1})
+	for round := range 3 {
+		_, next := s.Log()
+		c.now = int64(101 + round)
+		c.pull(0, next, 8)
+		if _, _, e := s.Collect(int64(101 + round)); e != api.OK {
+			t.Fatal(e)
+		}
+		base, next := s.Log()
+		if base != next || len(s.Blobs()) != 2 || !slices.Contains(s.Blobs(), names[0]) || !slices.Contains(s.Blobs(), names[1]) {
+			t.Errorf("round %d: %d of %d, blobs %q", round, base, next, s.Blobs())
+		}
+		count := map[string]int{}
+		for _, x := range s.db.Scan("", "", -1) {
+			count[x.Key[:1]]++
+		}
+		if count["e"] != 0 || count["b"] != 2 || count["u"] != 2 || uint64(count["s"]) != s.meta.parts {
+			t.Errorf("round %d: %v", round, count)
+		}
+		before := told(s)
+		d.Crash([]int{9, 9, 9})
+		s = open(t, d, plain)
+		c.s = s
+		if told(s) != before {
+			t.Error("behind a crash")
+		}
+		for range 5 {
+			if code, _ := c.push(0, set(at(0, s.Devices()[0].Upto+1), "x", "f", "v")); code != 200 {
+				t.Fatal(code)
+			}
+		}
+	}
+	if code, _ := c.ask("PUT", "/blob/"+names[0], nil); code != 404 {
+		t.Error("no such path")
+	}
+}
