@@ -79,12 +79,9 @@ func (s *Server) unneeded(before int64) []string {
 		if _, e := sha.Read(x.Value); x.Field != photoField || e != api.OK {
 			continue
 		}
-		b, _ := s.blob(x.Value)
-		_, chunks, e := blobs.Names(b)
-		if e != api.OK {
-			continue
-		}
 		needed[x.Value] = struct{}{}
+		b, _ := s.blob(x.Value)
+		_, chunks, _ := blobs.Names(b)
 		for _, name := range chunks {
 			needed[name] = struct{}{}
 		}

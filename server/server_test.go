@@ -545,7 +545,7 @@ func TestP21_3CollectBlobs(t *testing.T) {
 	if _, _, e := s.Collect(101); e != api.OK {
 		t.Error(e)
 	}
-	want := append(keptBlobs, string(used))
+	want := append(keptBlobs, string(used), string(noManifest))
 	slices.Sort(want)
 	for range 3 {
 		if !slices.Equal(s.Blobs(), slices.Compact(want)) {
