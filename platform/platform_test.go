@@ -121,7 +121,7 @@ func TestP25_2NoSuchDevice(t *testing.T) {
 			t.Errorf("node %d", dev)
 		}
 	}
-	if w.Room(0, -1) != api.EARG || w.Now() != 0 || w.Server().Tokens() != 2 {
+	if w.Now() != 0 || w.Server().Tokens() != 2 {
 		t.Error("refused calls")
 	}
 }
@@ -276,6 +276,17 @@ func TestP25_3ClockAndNumbers(t *testing.T) {
 	if w.Tick(-1) != api.EARG || w.Now() != 13 {
 		t.Error("the clock")
 	}
+}
+
+func TestP25_3RoomBelowNothing(t *testing.T) {
+	w := registered(t)
+	set(t, w, 0, "c", "fn", "Ann")
+	ok(t, w.Room(0, -50000))
+	if _, e := w.Set(0, "c", "fn", "x"); e != api.EFULL {
+		t.Error("a quota below 0 is 0")
+	}
+	ok(t, w.Crash(0, nil))
+	set(t, w, 0, "c", "fn", "Bob")
 }
 
 func TestP25_3CrashAndRoom(t *testing.T) {
